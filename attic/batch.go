@@ -1,5 +1,30 @@
 package attic
 
+import "strings"
+
+// headName stands for the version's name h, where any other is its number.
+const headName = -1
+
+// terms are what x, y, n and k stand for in a request or a transaction.
+type terms struct {
+	x, y int
+	n, k int
+}
+
+type request struct {
+	terms
+	kind  requestKind
+	v, w  int // versions' names
+	slot  int
+	block []*transaction
+}
+
+type transaction struct {
+	terms
+	kind    transactionKind
+	program string
+}
+
 // A shape tells by letters what must stand, as the document's tables do: V and
 // W a version's name, x and y an account, n and k a number, s a slot. Beyond
 // those: R a request's letter, B the transactions of a block or none, T the
@@ -37,24 +62,27 @@ func transactionShape(kind transactionKind) string {
 	return "y(n,k)"
 }
 
-// reader is how far a batch has been read.
+// reader is how far a batch has been read, and what it has told.
 type reader struct {
-	rest         string // the shape of what must still stand
-	digits       int    // how many more digits the name or number just read may have
-	requests     int    // how many requests have begun
-	transactions int    // how many the request at hand has
-	steps        int    // how many the program at hand has
+	rest        string       // the shape of what must still stand
+	requests    []*request   // those that have begun
+	request     *request     // the last of them
+	transaction *transaction // the last of its block
+	terms       *terms       // those of the request or transaction at hand
+	number      *int         // the name or number just read
+	digits      int          // how many more digits it may have
+	steps       int          // how many the program at hand has
 }
 
-// readBatch answers the place of the first byte that cannot stand there, or the
-// text's length, and whether the text is a batch.
-func readBatch(batch string) (int, bool) {
+// readBatch answers the requests of a batch; the place of the first byte that
+// cannot stand there, or the text's length; and whether the text is a batch.
+func readBatch(batch string) ([]*request, int, bool) {
 	if batch == "" {
-		return 0, true
+		return nil, 0, true
 	}
 	r := reader{rest: "R"}
 	at := r.read(batch)
-	return at, at == len(batch) && (r.rest == "" || r.rest == "B")
+	return r.requests, at, at == len(batch) && (r.rest == "" || r.rest == "B")
 }
 
 // read answers how many bytes can stand, from the first on.
@@ -65,6 +93,7 @@ bytes:
 		c := batch[at]
 		if r.digits > 0 && isDigit(c) {
 			r.digits--
+			*r.number = *r.number*10 + int(c-'0')
 			continue bytes
 		}
 		r.digits = 0
@@ -82,13 +111,14 @@ bytes:
 			continue bytes
 		case 'B':
 			if isAccount(c) {
-				r.rest = "T"
+				r.beginTransaction()
+				r.take('x', c)
 			} else if !r.goOn(c) {
 				break bytes
 			}
 			continue bytes
 		case 'T':
-			if !r.beginTransaction(transactionOf(c)) {
+			if !r.shapeTransaction(transactionOf(c)) {
 				break bytes
 			}
 			continue bytes
@@ -100,11 +130,12 @@ bytes:
 				r.steps++
 				continue bytes
 			}
+			r.transaction.program = batch[at-r.steps : at]
 		default:
 			if !fits(want, c) {
 				break bytes
 			}
-			r.digits = moreDigits(want, c)
+			r.take(want, c)
 		}
 		r.rest = r.rest[1:]
 	}
@@ -113,10 +144,12 @@ bytes:
 
 // goOn takes the byte behind a whole request or transaction.
 func (r *reader) goOn(c byte) bool {
+	transactions := len(r.request.block)
 	switch {
-	case c == ';' && r.requests < maxRequests:
+	case c == ';' && len(r.requests) < maxRequests:
 		r.rest = "R"
-	case c == ',' && r.transactions > 0 && r.transactions < maxTx:
+	case c == ',' && transactions > 0 && transactions < maxTx:
+		r.beginTransaction()
 		r.rest = "xT"
 	default:
 		return false
@@ -128,17 +161,26 @@ func (r *reader) beginRequest(kind requestKind) bool {
 	if kind == requestNone {
 		return false
 	}
-	r.requests++
-	r.transactions = 0
+	r.request = &request{kind: kind}
+	r.requests = append(r.requests, r.request)
+	r.terms = &r.request.terms
 	r.rest = requestShape(kind)
 	return true
 }
 
-func (r *reader) beginTransaction(kind transactionKind) bool {
+// beginTransaction leaves what must stand behind the transaction's account.
+func (r *reader) beginTransaction() {
+	r.transaction = new(transaction)
+	r.request.block = append(r.request.block, r.transaction)
+	r.terms = &r.transaction.terms
+	r.rest = "T"
+}
+
+func (r *reader) shapeTransaction(kind transactionKind) bool {
 	if kind == transactionNone {
 		return false
 	}
-	r.transactions++
+	r.transaction.kind = kind
 	r.steps = 0
 	r.rest = transactionShape(kind)
 	return true
@@ -154,26 +196,47 @@ func fits(want, c byte) bool {
 	case 'x', 'y':
 		return isAccount(c)
 	case 's':
-		return isDigit(c) || 'a' <= c && c <= 'f'
+		return isSlot(c)
 	}
 	return c == want
 }
 
-// moreDigits answers how many digits may stand behind the first byte of what is
-// wanted: none behind a nought, nor behind the head's letter.
-func moreDigits(want, first byte) int {
-	if first == '0' || !isDigit(first) {
-		return 0
-	}
+// take keeps what a byte tells that is, or begins, what was wanted.
+func (r *reader) take(want, c byte) {
 	switch want {
-	case 'V', 'W':
-		return versionDigits - 1
-	case 'n', 'k':
-		return numberDigits - 1
+	case 'V':
+		r.takeFirst(&r.request.v, c, versionDigits)
+	case 'W':
+		r.takeFirst(&r.request.w, c, versionDigits)
+	case 'x':
+		r.terms.x = strings.IndexByte(accountNames, c)
+	case 'y':
+		r.terms.y = strings.IndexByte(accountNames, c)
+	case 'n':
+		r.takeFirst(&r.terms.n, c, numberDigits)
+	case 'k':
+		r.takeFirst(&r.terms.k, c, numberDigits)
+	case 's':
+		r.request.slot = strings.IndexByte(slotNames, c)
 	}
-	return 0
+}
+
+// takeFirst begins a name or number of at most so many digits: none more may
+// stand behind a nought, nor behind the head's letter.
+func (r *reader) takeFirst(number *int, c byte, most int) {
+	if c == 'h' {
+		*number = headName
+		return
+	}
+	r.number = number
+	*number = int(c - '0')
+	if c != '0' {
+		r.digits = most - 1
+	}
 }
 
 func isDigit(c byte) bool { return '0' <= c && c <= '9' }
 
-func isAccount(c byte) bool { return 'a' <= c && c <= 'h' }
+func isAccount(c byte) bool { return strings.IndexByte(accountNames, c) >= 0 }
+
+func isSlot(c byte) bool { return strings.IndexByte(slotNames, c) >= 0 }

@@ -5,6 +5,9 @@ const (
 	maxRequests = 24
 	maxTx       = 8
 	maxCode     = 40
+	maxVersions = 40
+	maxGas      = 400
+	maxWorkers  = 8
 
 	versionDigits = 2
 	numberDigits  = 6

@@ -1,0 +1,168 @@
+package attic
+
+import (
+	"encoding/binary"
+	"fmt"
+	"hash/fnv"
+	"maps"
+	"regexp"
+	"slices"
+	"strconv"
+	"strings"
+)
+
+// plain is a second reading of the document, to hold the program against: the
+// requests are done one after the other, by whoever asks. It knows no calls.
+type plain []plainVersion
+
+type plainVersion struct {
+	balance map[string]int
+	program map[string]string
+	height  int
+	uses    []string
+}
+
+var (
+	paymentForm = regexp.MustCompile(`\A(.)>(.)=(\d+)\z`)
+	programForm = regexp.MustCompile(`\A(.)\{(.*)\}\z`)
+)
+
+func newPlain() *plain {
+	first := plainVersion{balance: map[string]int{}, program: map[string]string{}}
+	for _, name := range strings.Split("abcdefgh", "") {
+		first.balance[name] = 1000
+	}
+	return &plain{first}
+}
+
+func (p *plain) ask(batch string) string {
+	var answers []string
+	for _, request := range strings.Split(batch, ";") {
+		answers = append(answers, p.answer(request))
+	}
+	return strings.Join(answers, ";")
+}
+
+func (p *plain) answer(request string) string {
+	name, rest, _ := strings.Cut(request[1:], ":")
+	v, there := p.version(name)
+	if !there {
+		return "!3"
+	}
+	switch request[0] {
+	case 'i':
+		return p.add(v, rest)
+	case 'g':
+		return "0"
+	case 'b':
+		return strconv.Itoa(v.balance[rest])
+	case 'r':
+		return v.digest()
+	case 'l':
+		return "-"
+	case 'u':
+		return orDash(v.uses)
+	}
+	w, there := p.version(rest)
+	if !there {
+		return "!3"
+	}
+	var all []string
+	for _, name := range strings.Split("abcdefgh", "") {
+		if v.balance[name] != w.balance[name] {
+			all = append(all, name+"$")
+		}
+		if v.program[name] != w.program[name] {
+			all = append(all, name+"{")
+		}
+	}
+	return orDash(all)
+}
+
+func orDash(texts []string) string {
+	if texts == nil {
+		return "-"
+	}
+	return strings.Join(texts, ",")
+}
+
+func (p *plain) version(name string) (plainVersion, bool) {
+	if name == "h" {
+		// The first of the greatest is the one with the lowest number.
+		return slices.MaxFunc(*p, func(v, w plainVersion) int { return v.height - w.height }), true
+	}
+	n, _ := strconv.Atoi(name)
+	if n >= len(*p) {
+		return plainVersion{}, false
+	}
+	return (*p)[n], true
+}
+
+func (p *plain) add(v plainVersion, block string) string {
+	if len(*p) == 40 {
+		return "!4"
+	}
+	next := plainVersion{balance: maps.Clone(v.balance), program: maps.Clone(v.program), height: v.height + 1}
+	miner, all, _ := strings.Cut(block, "/")
+	for _, tx := range strings.Split(all, ",") {
+		if all != "" && !next.do(tx, miner) {
+			return "!5"
+		}
+	}
+	next.balance[miner] += 50
+	*p = append(*p, next)
+	return strconv.Itoa(len(*p) - 1)
+}
+
+func (v *plainVersion) do(tx, miner string) bool {
+	x := tx[:1]
+	cost, gas := 20, 20
+	if m := paymentForm.FindStringSubmatch(tx); m != nil {
+		n, _ := strconv.Atoi(m[3])
+		cost, gas = n+10, 10
+		defer func() { v.balance[m[2]] += n }()
+	} else {
+		v.program[x] = programForm.FindStringSubmatch(tx)[2]
+	}
+	if v.balance[x] < cost {
+		return false
+	}
+	v.balance[x] -= cost
+	v.balance[miner] += gas
+	v.uses = append(v.uses, fmt.Sprintf("1:%d", gas))
+	return true
+}
+
+func (v *plainVersion) digest() string {
+	var accounts []uint64
+	for _, name := range strings.Split("abcdefgh", "") {
+		accounts = append(accounts, plainAccount(uint64(v.balance[name]), v.program[name], [16]uint64{}))
+	}
+	return fmt.Sprintf("%016x", plainTree(accounts))
+}
+
+func plainAccount(balance uint64, program string, slots [16]uint64) uint64 {
+	var leaves []uint64
+	for _, held := range slots {
+		leaves = append(leaves, plainHash("", held))
+	}
+	return plainHash(program, balance, plainTree(leaves))
+}
+
+// plainHash: what the document takes in is the hash FNV-1a of 64 bits, of the
+// numbers and then of the text.
+func plainHash(text string, numbers ...uint64) uint64 {
+	h := fnv.New64a()
+	for _, n := range numbers {
+		h.Write(binary.BigEndian.AppendUint64(nil, n))
+	}
+	h.Write([]byte(text))
+	return h.Sum64()
+}
+
+func plainTree(l []uint64) uint64 {
+	if len(l) == 1 {
+		return l[0]
+	}
+	return plainHash("", plainTree(l[:len(l)/2]), plainTree(l[len(l)/2:]))
+}
