@@ -3,6 +3,7 @@ package attic
 import (
 	"fmt"
 	"math"
+	"slices"
 	"strings"
 	"testing"
 )
@@ -95,8 +96,8 @@ func TestVersionZero(t *testing.T) {
 func TestNoSuchVersion(t *testing.T) {
 	onEach(t, func(t *testing.T, a *Attic) {
 		for _, name := range []string{"1", "2", "9", "10", "39", "40", "99"} {
-			batch := strings.ReplaceAll("i%:a/;g%:a0;b%:a;r%;l%;u%;d%:0;d0:%;d%:%;dh:%", "%", name)
-			wantAnswer(t, a, batch, many("!3", ";", 10))
+			batch := strings.ReplaceAll("i%:a/;g%:a0;b%:a;c%:a>b(9,0);c%:a>b(401,0);m%:a>b(0);r%;l%;u%;d%:0;d0:%;d%:%;dh:%;i%:a/a:b(9,0)", "%", name)
+			wantAnswer(t, a, batch, many("!3", ";", 14))
 		}
 		wantVersions(t, a, 1)
 		wantAnswer(t, a, "i0:a/", "1")
@@ -181,7 +182,7 @@ func TestRefusedBlocks(t *testing.T) {
 
 // oneOther answers eight transactions, of which one is another.
 func oneOther(each, other string, at int) string {
-	all := strings.Split(many(each, ",", 8), ",")
+	all := slices.Repeat([]string{each}, 8)
 	all[at] = other
 	return strings.Join(all, ",")
 }
@@ -207,7 +208,7 @@ func TestFull(t *testing.T) {
 		wantAnswer(t, a, "b39:a;i0:a/a>b=991;b39:a;ih:b/;b39:a;b39:b;ih:a/;i0:a/;bh:b;b40:a", "!3;!5;!3;39;2900;1050;!4;!4;1050;!3")
 		wantVersions(t, a, 40)
 		// Of several refusals: the version, then the room, then the block.
-		wantAnswer(t, a, "i40:a/;i40:a/a>b=999999;i99:a/;i39:a/;i0:a/a>b=999999;d0:40;d40:0", "!3;!3;!3;!4;!4;!3;!3")
+		wantAnswer(t, a, "i40:a/;i40:a/a>b=999999;i99:a/;i39:a/;i0:a/a>b=999999;i0:a/a:b(9,0);d0:40;d40:0", "!3;!3;!3;!4;!4;!4;!3;!3")
 		wantVersions(t, a, 40)
 		wantAnswer(t, a, "b39:a;bh:a;b0:a;b1:a;b38:a;d38:39", "2900;2900;1000;1050;2900;b$")
 	})

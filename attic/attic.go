@@ -37,8 +37,7 @@ func New(workers int) (*Attic, Errno) {
 	return &Attic{workers: workers, shelf: firstShelf()}, OK
 }
 
-// Ask answers a batch (P5). Calls are not built yet: a block with one is
-// refused, and a question about one is answered by nothing.
+// Ask answers a batch (P5).
 func (a *Attic) Ask(batch string) (string, Errno) {
 	requests, e, _ := look(batch)
 	if e != OK {

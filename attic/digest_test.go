@@ -59,7 +59,7 @@ func TestSlotAnswers(t *testing.T) {
 	s := firstState()
 	s[1].slots[15] = math.MaxUint64
 	s[7].slots[0] = 10
-	a := &Attic{workers: 2, shelf: shelf{{state: s}}}
+	a := &Attic{workers: 2, shelf: shelf{{ledger: ledger{state: s}}}}
 	wantAnswer(t, a, "g0:bf;gh:h0;gh:b0;gh:hf;gh:af;i0:a/;g1:bf;d0:1", "18446744073709551615;10;0;0;0;1;18446744073709551615;a$")
 }
 

@@ -7,6 +7,8 @@ const (
 	maxCode     = 40
 	maxVersions = 40
 	maxGas      = 400
+	maxDepth    = 4
+	maxStack    = 32
 	maxWorkers  = 8
 
 	versionDigits = 2

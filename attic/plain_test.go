@@ -5,6 +5,7 @@ import (
 	"fmt"
 	"hash/fnv"
 	"maps"
+	"math/big"
 	"regexp"
 	"slices"
 	"strconv"
@@ -12,27 +13,36 @@ import (
 )
 
 // plain is a second reading of the document, to hold the program against: the
-// requests are done one after the other, by whoever asks. It knows no calls.
+// requests are done one after the other, by whoever asks.
 type plain []plainVersion
 
 type plainVersion struct {
 	balance map[string]int
 	program map[string]string
-	height  int
+	slots   map[string]*big.Int // by the account and the slot, where something was stored
+	logs    []string
 	uses    []string
+	height  int
 }
 
 var (
-	paymentForm = regexp.MustCompile(`\A(.)>(.)=(\d+)\z`)
-	programForm = regexp.MustCompile(`\A(.)\{(.*)\}\z`)
+	paymentForm     = regexp.MustCompile(`\A(.)>(.)=(\d+)\z`)
+	programForm     = regexp.MustCompile(`\A(.)\{(.*)\}\z`)
+	transactionForm = regexp.MustCompile(`[a-h](>[^,]*|\{[^}]*\}|:[^)]*\))`)
+	callForm        = regexp.MustCompile(`\A(.)[:>](.)\((?:(\d+),)?(\d+)\)\z`)
 )
 
 func newPlain() *plain {
-	first := plainVersion{balance: map[string]int{}, program: map[string]string{}}
+	first := plainVersion{balance: map[string]int{}, program: map[string]string{}, slots: map[string]*big.Int{}}
 	for _, name := range strings.Split("abcdefgh", "") {
 		first.balance[name] = 1000
 	}
 	return &plain{first}
+}
+
+// copied answers the version's state, with no logs and uses.
+func (v plainVersion) copied() plainVersion {
+	return plainVersion{balance: maps.Clone(v.balance), program: maps.Clone(v.program), slots: maps.Clone(v.slots), height: v.height}
 }
 
 func (p *plain) ask(batch string) string {
@@ -53,15 +63,26 @@ func (p *plain) answer(request string) string {
 	case 'i':
 		return p.add(v, rest)
 	case 'g':
-		return "0"
+		return v.slot(rest).String()
 	case 'b':
 		return strconv.Itoa(v.balance[rest])
 	case 'r':
 		return v.digest()
 	case 'l':
-		return "-"
+		return orDash(v.logs)
 	case 'u':
 		return orDash(v.uses)
+	case 'c', 'm':
+		m := callForm.FindStringSubmatch(rest)
+		n, _ := strconv.Atoi(m[3])
+		k, _ := strconv.ParseInt(m[4], 10, 64)
+		if request[0] == 'm' {
+			return v.least(m[1], m[2], k)
+		}
+		if n > 400 {
+			return "!6"
+		}
+		return v.would(m[1], m[2], n, k)
 	}
 	w, there := p.version(rest)
 	if !there {
@@ -74,6 +95,11 @@ func (p *plain) answer(request string) string {
 		}
 		if v.program[name] != w.program[name] {
 			all = append(all, name+"{")
+		}
+		for _, slot := range strings.Split("0123456789abcdef", "") {
+			if v.slot(name+slot).Cmp(w.slot(name+slot)) != 0 {
+				all = append(all, name+slot)
+			}
 		}
 	}
 	return orDash(all)
@@ -102,10 +128,11 @@ func (p *plain) add(v plainVersion, block string) string {
 	if len(*p) == 40 {
 		return "!4"
 	}
-	next := plainVersion{balance: maps.Clone(v.balance), program: maps.Clone(v.program), height: v.height + 1}
+	next := v.copied()
+	next.height++
 	miner, all, _ := strings.Cut(block, "/")
-	for _, tx := range strings.Split(all, ",") {
-		if all != "" && !next.do(tx, miner) {
+	for _, tx := range transactionForm.FindAllString(all, -1) {
+		if !next.do(tx, miner) {
 			return "!5"
 		}
 	}
@@ -115,6 +142,11 @@ func (p *plain) add(v plainVersion, block string) string {
 }
 
 func (v *plainVersion) do(tx, miner string) bool {
+	if m := callForm.FindStringSubmatch(tx); m != nil {
+		n, _ := strconv.Atoi(m[3])
+		k, _ := strconv.ParseInt(m[4], 10, 64)
+		return v.call(m[1], m[2], n, k, miner)
+	}
 	x := tx[:1]
 	cost, gas := 20, 20
 	if m := paymentForm.FindStringSubmatch(tx); m != nil {
@@ -136,7 +168,11 @@ func (v *plainVersion) do(tx, miner string) bool {
 func (v *plainVersion) digest() string {
 	var accounts []uint64
 	for _, name := range strings.Split("abcdefgh", "") {
-		accounts = append(accounts, plainAccount(uint64(v.balance[name]), v.program[name], [16]uint64{}))
+		var slots [16]uint64
+		for i := range slots {
+			slots[i] = v.slot(fmt.Sprintf("%s%x", name, i)).Uint64()
+		}
+		accounts = append(accounts, plainAccount(uint64(v.balance[name]), v.program[name], slots))
 	}
 	return fmt.Sprintf("%016x", plainTree(accounts))
 }

@@ -9,7 +9,7 @@ import (
 // shelf holds the versions that there are at one time, by their numbers.
 type shelf []*version
 
-func firstShelf() shelf { return shelf{{state: firstState()}} }
+func firstShelf() shelf { return shelf{{ledger: ledger{state: firstState()}}} }
 
 // with answers another shelf: this one may still be read.
 func (s shelf) with(v *version) shelf { return append(slices.Clip(s), v) }
@@ -62,12 +62,19 @@ func (s shelf) answer(q *request) string {
 		return decimal(v.state[q.x].slots[q.slot])
 	case requestBalance:
 		return decimal(v.state[q.x].balance)
+	case requestCall:
+		if q.n > maxGas {
+			return refusal(ErrArg)
+		}
+		return v.callText(q.x, q.y, uint64(q.n), uint64(q.k))
+	case requestLeastGas:
+		return v.leastGasText(q.x, q.y, uint64(q.k))
 	case requestDigest:
 		return hexadecimal(v.state.digest())
 	case requestLogs:
-		return list(nil) // only calls log
+		return list(logTexts(v.logs))
 	case requestGasUsed:
-		return list(gasTexts(v.gas))
+		return list(useTexts(v.uses))
 	case requestDifference:
 		w := s.find(q.w)
 		if w == nil {
@@ -95,10 +102,18 @@ func list(texts []string) string {
 	return strings.Join(texts, ",")
 }
 
-func gasTexts(gas []uint64) []string {
+func logTexts(logs []entry) []string {
 	var texts []string
-	for _, used := range gas {
-		texts = append(texts, "1:"+decimal(used))
+	for _, l := range logs {
+		texts = append(texts, accountNames[l.account:l.account+1]+decimal(l.value))
+	}
+	return texts
+}
+
+func useTexts(uses []use) []string {
+	var texts []string
+	for _, u := range uses {
+		texts = append(texts, decimal(truth(u.well))+":"+decimal(u.gas))
 	}
 	return texts
 }

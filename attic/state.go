@@ -13,6 +13,8 @@ type account struct {
 	slots   [len(slotNames)]uint64
 }
 
+func (a *account) slot(s uint64) *uint64 { return &a.slots[s%uint64(len(a.slots))] }
+
 // A state is copied to be changed: one that a version holds is never written
 // into, so that any goroutine may read it without a lock.
 type state [len(accountNames)]account
